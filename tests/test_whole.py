@@ -1,0 +1,83 @@
+import math
+import unittest
+
+from formturn.whole import common_divisor, is_bar, is_whole, is_whole_tuple
+
+
+class WholeNumbers(unittest.TestCase):
+    def test_whole_numbers_of_either_sign_and_nought(self):
+        for value in (0, 1, -1, 7, -12, 10**4000, -(10**4000)):
+            self.assertIs(is_whole(value), True)
+
+    def test_true_and_false_are_none(self):
+        self.assertIs(is_whole(True), False)
+        self.assertIs(is_whole(False), False)
+
+    def test_other_kinds_are_none(self):
+        for value in (None, "1", 1.0, b"1", (1,), [1], {1: 1}, {1}, object(), int):
+            with self.subTest(value=value):
+                self.assertIs(is_whole(value), False)
+
+
+class WholeTuples(unittest.TestCase):
+    def test_a_tuple_of_so_many(self):
+        self.assertIs(is_whole_tuple((1, 0, -2), 3), True)
+        self.assertIs(is_whole_tuple((1, 0, -2, 5), 4), True)
+
+    def test_another_length(self):
+        for value in ((), (1,), (1, 0), (1, 0, 1, 0)):
+            with self.subTest(value=value):
+                self.assertIs(is_whole_tuple(value, 3), False)
+
+    def test_another_kind(self):
+        for value in ([1, 0, 1], "101", {1: 1, 2: 2, 3: 3}, range(3), None, 3):
+            with self.subTest(value=value):
+                self.assertIs(is_whole_tuple(value, 3), False)
+
+    def test_another_kind_within(self):
+        for wrong in (True, False, None, "1", 1.0, (1,), [1]):
+            for place in range(3):
+                value = [1, 2, 3]
+                value[place] = wrong
+                with self.subTest(value=value):
+                    self.assertIs(is_whole_tuple(tuple(value), 3), False)
+
+
+class Bars(unittest.TestCase):
+    def test_numbers_from_the_top_down(self):
+        bars = [number for number in range(12, -21, -1) if is_bar(number)]
+        self.assertEqual(bars, [-3, -4, -7, -8, -11, -12, -15, -16, -19, -20])
+
+    def test_great_bars(self):
+        self.assertIs(is_bar(1 - 4 * 10**4000), True)
+        self.assertIs(is_bar(-4 * 10**4000), True)
+        self.assertIs(is_bar(2 - 4 * 10**4000), False)
+        self.assertIs(is_bar(4 * 10**4000), False)
+
+    def test_what_is_no_number(self):
+        for value in (True, False, None, "-3", -3.0, (-3,), [-3]):
+            with self.subTest(value=value):
+                self.assertIs(is_bar(value), False)
+
+
+class CommonDivisors(unittest.TestCase):
+    def test_all_small_pairs(self):
+        for one in range(-30, 31):
+            for other in range(-30, 31):
+                self.assertEqual(common_divisor(one, other), math.gcd(one, other), (one, other))
+
+    def test_great_numbers(self):
+        self.assertEqual(common_divisor(6 * 10**60, -9 * 7**60), 3)
+        # Any power of two and any of five have no divisor above 1 in common.
+        self.assertEqual(common_divisor(2**13000 * 21, 5**5600 * 35), 7)
+
+    def test_neighbours_of_the_golden_row_take_the_most_steps(self):
+        lesser, greater = 1, 1
+        while greater < 10**4000:
+            lesser, greater = greater, lesser + greater
+        self.assertEqual(common_divisor(lesser, greater), 1)
+        self.assertEqual(common_divisor(15 * lesser, 15 * greater), 15)
+
+
+if __name__ == "__main__":
+    unittest.main()
