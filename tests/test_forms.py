@@ -4,6 +4,7 @@ from fractions import Fraction
 
 from formturn.errors import FormError, NotAForm
 from formturn.forms import bar_of, is_bare, worth
+from tests.helper import Hostile
 
 
 def worth_at_one(form):
@@ -11,15 +12,6 @@ def worth_at_one(form):
 
 
 ASKED = [("bar_of", bar_of), ("worth", worth_at_one), ("is_bare", is_bare)]
-
-
-class Hostile:
-    # What is handed in may be of any kind, this one too, that fails at whatever it is asked.
-    def fail(self, *ignored):
-        raise RuntimeError("asked")
-
-    __eq__ = __lt__ = __gt__ = __len__ = __iter__ = __getitem__ = __bool__ = fail
-    __mul__ = __rmul__ = __sub__ = __rsub__ = __repr__ = __str__ = __hash__ = __int__ = __index__ = fail
 
 
 class Refusing(unittest.TestCase):

@@ -1,7 +1,9 @@
 import math
 import unittest
 
-from formturn.whole import common_divisor, is_bar, is_whole, is_whole_tuple
+from formturn.errors import OutOfBounds
+from formturn.whole import common_divisor, is_bar, is_whole, is_whole_tuple, require_number, root_of
+from tests.helper import NOT_NUMBERS
 
 
 class WholeNumbers(unittest.TestCase):
@@ -58,6 +60,29 @@ class Bars(unittest.TestCase):
         for value in (True, False, None, "-3", -3.0, (-3,), [-3]):
             with self.subTest(value=value):
                 self.assertIs(is_bar(value), False)
+
+
+class Bounds(unittest.TestCase):
+    def test_within_and_at_both_ends(self):
+        for number in (-3, -2, 0, 7):
+            require_number(number, -3, 7)
+
+    def test_beyond_and_no_number(self):
+        for wrong in [-4, 8, 10**4500, -(10**4500)] + NOT_NUMBERS:
+            with self.assertRaises(OutOfBounds):
+                require_number(wrong, -3, 7)
+
+
+class Roots(unittest.TestCase):
+    def test_all_small_numbers(self):
+        for number in range(5000):
+            self.assertEqual(root_of(number), math.isqrt(number))
+
+    def test_beside_great_squares(self):
+        for root in (20000, 99999, 10**40, 10**300 + 7):
+            self.assertEqual(root_of(root * root - 1), root - 1)
+            self.assertEqual(root_of(root * root), root)
+            self.assertEqual(root_of(root * root + 1), root)
 
 
 class CommonDivisors(unittest.TestCase):
