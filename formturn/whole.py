@@ -1,6 +1,9 @@
-"""Whole numbers: what counts as one, their bounds, common divisors and roots."""
+"""Whole numbers: what counts as one or as a bar, their bounds, common divisors and roots."""
 
-from formturn.errors import OutOfBounds
+from formturn.errors import NoBar, OutOfBounds
+
+# Least forms, rounds and parts are told for bars no lower than this.
+LOWEST_LISTED_BAR = -4000
 
 
 def is_whole(value):
@@ -18,6 +21,17 @@ def is_bar(value):
     return is_whole(value) and value < 0 and value % 4 in (0, 1)
 
 
+def require_bar(value):
+    if not is_bar(value):
+        raise NoBar("a bar is a whole number below nought that leaves 0 or 1 by four")
+
+
+def require_bar_from(value, lowest):
+    require_bar(value)
+    if value < lowest:
+        raise NoBar("the bar is too low for what is asked")
+
+
 def require_number(value, lowest, highest):
     if not is_whole(value) or value < lowest or value > highest:
         raise OutOfBounds("a whole number within its bounds is asked for")
@@ -31,6 +45,27 @@ def common_divisor(one, other):
         greater = lesser
         lesser = rest
     return greater
+
+
+def divisor_with_shares(one, other):
+    # (d, u, v): their common divisor d, no less than nought, and d = u one + v other.
+    divisor = one
+    share = 1
+    rest = other
+    rest_share = 0
+    while rest != 0:
+        times = divisor // rest
+        after = divisor - times * rest
+        after_share = share - times * rest_share
+        divisor = rest
+        share = rest_share
+        rest = after
+        rest_share = after_share
+    if divisor < 0:
+        divisor = -divisor
+        share = -share
+    # Only one share is carried along: the other follows from it, at less cost for great numbers.
+    return (divisor, share, (divisor - share * one) // other if other != 0 else 0)
 
 
 def root_of(number):

@@ -1,9 +1,10 @@
 import math
 import unittest
 
-from formturn.errors import OutOfBounds
-from formturn.whole import common_divisor, is_bar, is_whole, is_whole_tuple, require_number, root_of
-from tests.helper import NOT_NUMBERS
+from formturn.errors import NoBar, OutOfBounds
+from formturn.whole import (common_divisor, divisor_with_shares, is_bar, is_whole, is_whole_tuple, require_bar,
+                            require_bar_from, require_number, root_of)
+from tests.helper import NOT_BARS, NOT_NUMBERS
 
 
 class WholeNumbers(unittest.TestCase):
@@ -61,6 +62,23 @@ class Bars(unittest.TestCase):
             with self.subTest(value=value):
                 self.assertIs(is_bar(value), False)
 
+    def test_what_is_no_bar_is_refused(self):
+        for number, wrong in enumerate(NOT_BARS):
+            with self.subTest(number=number):
+                with self.assertRaises(NoBar):
+                    require_bar(wrong)
+                with self.assertRaises(NoBar):
+                    require_bar_from(wrong, -4000)
+
+    def test_bars_and_too_low_ones(self):
+        for bar in (-3, -4, -3999, -4000):
+            require_bar(bar)
+            require_bar_from(bar, -4000)
+        for bar in (-4003, -4004, 1 - 4 * 10**4500):
+            require_bar(bar)
+            with self.assertRaises(NoBar):
+                require_bar_from(bar, -4000)
+
 
 class Bounds(unittest.TestCase):
     def test_within_and_at_both_ends(self):
@@ -71,6 +89,24 @@ class Bounds(unittest.TestCase):
         for wrong in [-4, 8, 10**4500, -(10**4500)] + NOT_NUMBERS:
             with self.assertRaises(OutOfBounds):
                 require_number(wrong, -3, 7)
+
+
+class Shares(unittest.TestCase):
+    def assert_shares(self, one, other):
+        divisor, first, second = divisor_with_shares(one, other)
+        self.assertTrue(divisor == math.gcd(one, other))
+        self.assertTrue(first * one + second * other == divisor)
+
+    def test_all_small_pairs(self):
+        for one in range(-25, 26):
+            for other in range(-25, 26):
+                self.assert_shares(one, other)
+
+    def test_great_numbers(self):
+        self.assert_shares(6 * 10**60, -9 * 7**60)
+        self.assert_shares(2**13000 * 21, 5**5600 * 35)
+        self.assert_shares(10**4000, 0)
+        self.assert_shares(0, -(10**4000))
 
 
 class Roots(unittest.TestCase):
