@@ -1,9 +1,10 @@
-"""Whole numbers: what counts as one or as a bar, their bounds, common divisors and roots."""
+"""Whole numbers: what counts as one or as a bar, their bounds, common divisors, roots, primes and squares left."""
 
 from formturn.errors import NoBar, OutOfBounds
 
-# Least forms, rounds and parts are told for bars no lower than this.
+# Least forms, rounds and parts are told for bars no lower than this, signs and primes for bars no lower than that.
 LOWEST_LISTED_BAR = -4000
+LOWEST_MARKED_BAR = -1000000
 
 
 def is_whole(value):
@@ -32,8 +33,14 @@ def require_bar_from(value, lowest):
         raise NoBar("the bar is too low for what is asked")
 
 
+def require_whole(value):
+    if not is_whole(value):
+        raise OutOfBounds("a whole number is asked for")
+
+
 def require_number(value, lowest, highest):
-    if not is_whole(value) or value < lowest or value > highest:
+    require_whole(value)
+    if value < lowest or value > highest:
         raise OutOfBounds("a whole number within its bounds is asked for")
 
 
@@ -76,3 +83,37 @@ def root_of(number):
         guess = better
         better = (guess + number // guess) // 2
     return guess
+
+
+def prime_factors(number):
+    # The least first, each as often as it divides the number.
+    rest = number
+    found = []
+    prime = 2
+    while prime * prime <= rest:
+        while rest % prime == 0:
+            found.append(prime)
+            rest = rest // prime
+        prime += 1
+    if rest > 1:
+        found.append(rest)
+    return found
+
+
+def prime_divisors(number):
+    return sorted(set(prime_factors(number)))
+
+
+def power_by(base, exponent, divisor):
+    found = 1
+    while exponent > 0:
+        if exponent % 2 == 1:
+            found = found * base % divisor
+        base = base * base % divisor
+        exponent = exponent // 2
+    return found
+
+
+def leaves_square(number, prime):
+    # Euler's rule, for an odd prime that does not divide the number.
+    return power_by(number % prime, (prime - 1) // 2, prime) == 1

@@ -2,8 +2,9 @@ import math
 import unittest
 
 from formturn.errors import NoBar, OutOfBounds
-from formturn.whole import (common_divisor, divisor_with_shares, is_bar, is_whole, is_whole_tuple, require_bar,
-                            require_bar_from, require_number, root_of)
+from formturn.whole import (common_divisor, divisor_with_shares, is_bar, is_whole, is_whole_tuple, leaves_square, power_by,
+                            prime_divisors, prime_factors, require_bar, require_bar_from, require_number, require_whole,
+                            root_of)
 from tests.helper import NOT_BARS, NOT_NUMBERS
 
 
@@ -89,6 +90,44 @@ class Bounds(unittest.TestCase):
         for wrong in [-4, 8, 10**4500, -(10**4500)] + NOT_NUMBERS:
             with self.assertRaises(OutOfBounds):
                 require_number(wrong, -3, 7)
+
+
+    def test_whole_numbers_without_bounds(self):
+        for number in (0, -1, 10**4500, -(10**4500)):
+            require_whole(number)
+        for wrong in NOT_NUMBERS:
+            with self.assertRaises(OutOfBounds):
+                require_whole(wrong)
+
+
+class Primes(unittest.TestCase):
+    def test_factors_of_small_numbers(self):
+        for number in range(1, 3000):
+            factors = prime_factors(number)
+            self.assertEqual(math.prod(factors), number)
+            self.assertEqual(factors, sorted(factors))
+            for prime in factors:
+                self.assertTrue(prime > 1 and all(prime % one for one in range(2, math.isqrt(prime) + 1)))
+            self.assertEqual(prime_divisors(number), sorted(set(factors)))
+
+    def test_factors_of_greater_numbers(self):
+        self.assertEqual(prime_factors(999983), [999983])
+        self.assertEqual(prime_factors(1999966), [2, 999983])
+        self.assertEqual(prime_factors(997 * 997), [997, 997])
+        self.assertEqual(prime_divisors(2000000), [2, 5])
+
+    def test_powers(self):
+        for divisor in range(2, 20):
+            for base in range(0, divisor):
+                for exponent in range(0, 12):
+                    self.assertEqual(power_by(base, exponent, divisor), pow(base, exponent, divisor))
+
+    def test_squares_left(self):
+        for prime in [3, 5, 7, 11, 13, 41, 97, 9973]:
+            squares = {one * one % prime for one in range(1, prime)}
+            for number in list(range(1, min(prime, 200))) + [-1, -2, -4, 10**50 + 1, 1 - 10**50]:
+                if number % prime:
+                    self.assertIs(leaves_square(number, prime), number % prime in squares)
 
 
 class Shares(unittest.TestCase):
