@@ -165,9 +165,84 @@ def faults_of_top(tree):
     return found
 
 
+def parents_of(tree):
+    return {child: node for node in ast.walk(tree) for child in ast.iter_child_nodes(node)}
+
+
+def class_names_of(tree):
+    own = [node.name for node in ast.walk(tree) if isinstance(node, ast.ClassDef)]
+    drawn = [name.name for node in ast.walk(tree) if isinstance(node, ast.ImportFrom) for name in node.names]
+    return own + [name for name in drawn if name[0].isupper() and not name.isupper()]
+
+
+def faults_of_local_names(tree):
+    taken = class_names_of(tree)
+    taken += [name.asname or name.name for node in tree.body if isinstance(node, ast.ImportFrom) for name in node.names]
+    found = []
+    for function in ast.walk(tree):
+        if isinstance(function, (ast.FunctionDef, ast.Lambda)):
+            for node in ast.walk(function):
+                stored = isinstance(node, ast.Name) and isinstance(node.ctx, ast.Store) and node.id
+                name = node.arg if isinstance(node, ast.arg) else stored
+                if name in taken:
+                    found.append(f"L15: the local name {name}")
+    return found
+
+
+def faults_of_class_use(tree):
+    names = class_names_of(tree)
+    parents = parents_of(tree)
+    found = []
+    for node in ast.walk(tree):
+        if isinstance(node, ast.Name) and node.id in names:
+            above = parents[node]
+            above = parents[above] if isinstance(above, ast.Tuple) else above
+            called = isinstance(above, ast.Call) and (above.func is node or ast.unparse(above.func) == "isinstance")
+            first = isinstance(above, ast.Attribute) and above.attr == "__init__"
+            if not (called or first or isinstance(above, (ast.ClassDef, ast.ExceptHandler))):
+                found.append(f"L18: the class {node.id}")
+    return found
+
+
+WALKED = ["zip", "enumerate", "reversed", "range"]
+WALKED_METHODS = ["items", "keys", "values"]
+WALKERS = ["list", "tuple", "dict", "sorted", "sum", "any", "all", "enumerate", "zip", "min", "max"]
+KEYWORDS = {"sorted": ["key", "reverse"], "min": ["key", "default"], "max": ["key", "default"], "sum": ["start"],
+            "enumerate": ["start"], "zip": ["strict"]}
+
+
+def is_call_of(node, names, methods=()):
+    if not isinstance(node, ast.Call):
+        return False
+    if isinstance(node.func, ast.Attribute):
+        return node.func.attr in methods
+    return isinstance(node.func, ast.Name) and node.func.id in names
+
+
+def faults_of_calls(tree):
+    parents = parents_of(tree)
+    found = []
+    for node in ast.walk(tree):
+        if is_call_of(node, WALKED, WALKED_METHODS):
+            above = parents[node]
+            looped = isinstance(above, (ast.For, ast.comprehension)) and above.iter is node
+            joined = is_call_of(above, [], ["join"]) and isinstance(above.func.value, ast.Constant)
+            if not (looped or joined or is_call_of(above, WALKERS)):
+                found.append(f"L23: {ast.unparse(node)} is kept")
+        if is_call_of(node, ["set", "frozenset"]) or isinstance(node, ast.Set):
+            if not (isinstance(parents[node], (ast.Compare, ast.BinOp)) or is_call_of(parents[node], ["sorted", "len"])):
+                found.append("L24: a set is kept")
+        if isinstance(node, ast.Call):
+            own = node.func.id if isinstance(node.func, ast.Name) else node.func.attr
+            if node.keywords and (own in METHODS or own in BUILTINS):
+                found += [f"L22: the keyword {one.arg}" for one in node.keywords if one.arg not in KEYWORDS.get(own, [])]
+    return found
+
+
 def faults_of_code(text, own_methods=()):
     tree = ast.parse(text)
     found = faults_of_text(text) + faults_of_imports(tree) + faults_of_top(tree)
+    found += faults_of_local_names(tree) + faults_of_class_use(tree) + faults_of_calls(tree)
     docstring = tree.body[0] if tree.body and ast.get_docstring(tree) is not None else None
     for node in ast.walk(tree):
         if type(node).__name__ not in NODES:
@@ -256,6 +331,15 @@ class TheLook(unittest.TestCase):
             ("def f():\n    raise ValueError\n", "L19"), ("def f(a, b):\n    return a is b\n", "L20"),
             ("def f(a):\n    return a.title()\n", "L25"), ("def f(a):\n    return 2 ** a\n", "L27"),
             ("x = 'a % b'\n", "L27"),
+            ("from formturn.forms import worth\n\n\ndef f(worth):\n    return worth\n", "L15"),
+            ("from formturn.forms import worth\n\n\ndef f():\n    worth = 1\n    return worth\n", "L15"),
+            ("class A:\n    pass\n\n\ndef f():\n    return [A]\n", "L18"),
+            ("from formturn.errors import NoBar\n\n\ndef f():\n    return NoBar\n", "L18"),
+            ("class A:\n    pass\n\n\ndef f(a):\n    return A.told(a)\n", "L18"),
+            ("def f(a):\n    b = range(a)\n    return b\n", "L23"), ("def f(a):\n    return a.items()\n", "L23"),
+            ("def f(a):\n    return zip(a, a)\n", "L23"), ("def f(a):\n    b = set(a)\n    return b\n", "L24"),
+            ("def f(a):\n    return {1, 2}\n", "L24"), ("def f(a):\n    return int(a, base=2)\n", "L22"),
+            ("def f(a):\n    return a.split(sep=';')\n", "L22"), ("def f(a):\n    return sorted(a, cmp=1)\n", "L22"),
         ]:
             with self.subTest(text=text[:60]):
                 self.assert_found(text, rule)
@@ -264,7 +348,9 @@ class TheLook(unittest.TestCase):
         text = ('"""A file."""\n\nfrom formturn.errors import NotAForm\n\nNAMES = ("a", "b")\n\n\n'
                 "class Kept(Base):\n    def __init__(self, numbers):\n        self.numbers = numbers\n\n\n"
                 "def f(a, b=1):\n    # Why.\n    for k, one in enumerate(a):\n        if one is None or one % 2 == k:\n"
-                "            raise NotAForm(f'{one}')\n    return [x ** 2 for x in a if x in NAMES]\n")
+                "            raise NotAForm(f'{one}')\n    return [x ** 2 for x in a if x in NAMES]\n\n\n"
+                "def g(a):\n    try:\n        return ''.join(reversed(sorted(set(a), key=len)))\n    except NotAForm:\n"
+                "        return list(a.items()) if isinstance(a, Kept) else Kept(a)\n")
         self.assertEqual(faults_of_code(text), [])
 
     def test_it_finds_files_that_do_not_belong(self):
